@@ -1,0 +1,1 @@
+"""Many hands on one sheet."""
