@@ -8,6 +8,7 @@ from sheethands.place import first_place
 
 DONE = 0
 UNDO = 1
+REDO = 2
 
 CELL = 4
 
@@ -61,13 +62,26 @@ class Act:
         """Whether this act counts rather than the other where both write the same."""
         return (self.time, self.hand) > (other.time, other.hand)
 
+    def is_same(self, other):
+        return (self.hand, self.number) == (other.hand, other.number)
 
-def can_be_undone(acts):
-    """Of a hand's own acts, in order, those that can be undone; the last of them is next."""
+    def knew(self, other):
+        """Whether the other act was in the copy that this one was made on."""
+        return other.number <= self.knows[other.hand - 1]
+
+
+def to_take_back(acts):
+    """Of a hand's own acts, in order, those that an undo and those that a redo can take back; the last is next."""
     undoable = []
+    redoable = []
     for act in acts:
         if act.kind == UNDO:
             undoable.pop()
+            redoable.append(act)
+        elif act.kind == REDO:
+            redoable.pop()
+            undoable.append(act)
         else:
             undoable.append(act)
-    return undoable
+            redoable = []
+    return {UNDO: undoable, REDO: redoable}

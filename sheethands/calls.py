@@ -3,9 +3,10 @@
 Where several refusals are due the one that is looked at first is answered: -1, -2, -3, -5.
 """
 
-from sheethands.act import DONE, UNDO, can_be_undone, cell_of, gone_of, place_of
+from sheethands.act import DONE, REDO, UNDO, cell_of, gone_of, place_of, to_take_back
 from sheethands.content import held
 from sheethands.place import places_between
+from sheethands.view import passed_of, sheet_of
 
 MOST_LINES = 64
 MOST_HANDS = 8
@@ -92,17 +93,58 @@ def set_cell(book, numbers):
 
 
 def undo(book, numbers):
+    return take_back(book, numbers[0], UNDO)
+
+
+def redo(book, numbers):
+    return take_back(book, numbers[0], REDO)
+
+
+def bring(book, numbers):
+    hand = numbers[0]
+    g = numbers[1]
+    k = numbers[2]
+    if not (book.has_hand(hand) and book.has_hand(g)):
+        return [-1]
+    made = book.acts_of(g)
+    if not 1 <= k <= len(made):
+        return [-2]
+    return [book.copy_of(hand).receive(made[k - 1])]
+
+
+def sync(book, numbers):
+    hand = numbers[0]
+    g = numbers[1]
+    if not (book.has_hand(hand) and book.has_hand(g)):
+        return [-1]
+    copy = book.copy_of(hand)
+    many = 0
+    # The two may be one and the same copy.
+    for act in list(book.copy_of(g).came):
+        many += copy.receive(act)
+    return [many]
+
+
+def sheet(book, numbers):
     hand = numbers[0]
     if not book.has_hand(hand):
         return [-1]
-    undoable = can_be_undone(book.acts_of(hand))
-    if not undoable:
-        return [-2]
-    if book.is_full(hand):
-        return [-5]
-    writes = taken_back(book, hand, undoable[-1])
-    book.make(hand, UNDO, writes)
-    return [len(writes)]
+    return [0] + sheet_of(book.copy_of(hand))
+
+
+def passed(book, numbers):
+    hand = numbers[0]
+    if not book.has_hand(hand):
+        return [-1]
+    return passed_of(book.copy_of(hand))
+
+
+def acts(book, numbers):
+    hand = numbers[0]
+    if not book.has_hand(hand):
+        return [-1]
+    copy = book.copy_of(hand)
+    return [len(copy.came), len(copy.waiting)] + copy.had
 
 
 def is_on_axis(book, hand, axis):
@@ -143,19 +185,34 @@ def do(book, hand, writes, answer):
     return [answer]
 
 
+def take_back(book, hand, kind):
+    """The hand makes an undo or a redo, by the kind, of its last act that such a one can take back."""
+    if not book.has_hand(hand):
+        return [-1]
+    able = to_take_back(book.acts_of(hand))[kind]
+    if not able:
+        return [-2]
+    if book.is_full(hand):
+        return [-5]
+    writes = taken_back(book, hand, able[-1])
+    book.make(hand, kind, writes)
+    return [len(writes)]
+
+
 def taken_back(book, hand, act):
     """The writes that take back what of an act still counts in the hand's copy."""
     counting = book.copy_of(hand).counting
     writes = {}
     for target in act.writes:
-        # An act is told by its hand and number; in the hand's own copy its own act is always there.
-        other = counting[target]
-        if (other.hand, other.number) == (act.hand, act.number):
+        # In the hand's own copy its own act is always there, so somebody's counts.
+        if counting[target].is_same(act):
             writes[target] = book.stood(target, act.knows)
     return writes
 
 
-CALLS = {1: begin, 2: put, 3: remove, 4: move, 5: set_cell, 6: undo}
+CALLS = {
+    1: begin, 2: put, 3: remove, 4: move, 5: set_cell, 6: undo,
+    7: redo, 8: bring, 9: sync, 10: sheet, 11: passed, 12: acts}
 
 
 def answer_of(book, call, numbers):

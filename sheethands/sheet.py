@@ -6,7 +6,7 @@ from sheethands.calls import answer_of
 SET = 5
 
 # How many numbers stand behind each call's own: of set those ahead of its content, the content's length among them.
-LENGTHS = {1: 3, 2: 4, 3: 4, 4: 5, 5: 4, 6: 1}
+LENGTHS = {1: 3, 2: 4, 3: 4, 4: 5, 5: 4, 6: 1, 7: 1, 8: 3, 9: 2, 10: 1, 11: 1, 12: 1}
 
 
 def answers(calls):

@@ -30,6 +30,9 @@ def between(first, second, me):
     return [first[0]] + between(first[1:], None, me)
 
 
+NAMES = ("begin", "put", "remove", "move", "set", "undo", "redo", "bring", "sync", "sheet", "passed", "acts")
+
+
 class Refusal(Exception):
     pass
 
@@ -48,7 +51,8 @@ class Model:
         self.sizes = [rows, cols]
         self.hands = hands
         self.copies = {hand: [] for hand in range(1, hands + 1)}
-        return 0
+        self.waiting = {hand: [] for hand in range(1, hands + 1)}
+        return [0]
 
     def first_value(self, target):
         if target[0] == "cell":
@@ -100,8 +104,12 @@ class Model:
     def coming(self, hand):
         return len(self.own(hand)) + 1
 
+    def look_hands(self, *hands):
+        refuse_if(any(hand not in range(1, self.hands + 1) for hand in hands), -1)
+
     def look(self, hand, axis, n, most):
-        refuse_if(hand not in range(1, self.hands + 1) or axis not in (0, 1) or n not in range(1, most + 1), -1)
+        self.look_hands(hand)
+        refuse_if(axis not in (0, 1) or n not in range(1, most + 1), -1)
 
     def place(self, hand, axis, numbers, line, behind):
         me = 64 * self.coming(hand)
@@ -115,7 +123,7 @@ class Model:
             first = between(first, second, (hand, me + i))
             writes.append((("place", axis, number), first))
         self.make(hand, "plain", writes)
-        return len(numbers)
+        return [len(numbers)]
 
     def put(self, hand, axis, k, n):
         self.look(hand, axis, n, 16)
@@ -129,7 +137,7 @@ class Model:
         there = self.there(self.copies[hand], axis)
         refuse_if(k < 0 or len(there[k:k + n]) != n, -2)
         self.make(hand, "plain", [(("gone", axis, number), True) for number in there[k:k + n]])
-        return n
+        return [n]
 
     def move(self, hand, axis, k, n, j):
         self.look(hand, axis, n, 64)
@@ -141,7 +149,7 @@ class Model:
         return self.place(hand, axis, moved, line, (there + [None])[k + n if j == k else j])
 
     def set(self, hand, row, column, content):
-        refuse_if(hand not in range(1, self.hands + 1), -1)
+        self.look_hands(hand)
         rows = self.there(self.copies[hand], 0)
         columns = self.there(self.copies[hand], 1)
         refuse_if(row not in range(len(rows)) or column not in range(len(columns)), -2)
@@ -154,24 +162,114 @@ class Model:
             refuse_if(known is not None and number not in range(len(known)), -3)
             value.append(number if known is None else known[number])
         self.make(hand, "plain", [(("cell", rows[row], columns[column]), value)])
-        return 0
+        return [0]
 
     def undo(self, hand):
-        refuse_if(hand not in range(1, self.hands + 1), -1)
-        undoable = []
+        self.look_hands(hand)
+        return self.take_back(hand, "undo")
+
+    def redo(self, hand):
+        self.look_hands(hand)
+        return self.take_back(hand, "redo")
+
+    def take_back(self, hand, kind):
+        can = {"undo": [], "redo": []}
+        other = {"undo": "redo", "redo": "undo"}
         for act in self.own(hand):
-            undoable = undoable[:-1] if act["kind"] == "undo" else undoable + [act]
-        refuse_if(not undoable, -2)
-        act = undoable[-1]
+            if act["kind"] == "plain":
+                can = {"undo": can["undo"] + [act], "redo": []}
+            else:
+                can[act["kind"]] = can[act["kind"]][:-1]
+                can[other[act["kind"]]] = can[other[act["kind"]]] + [act]
+        refuse_if(not can[kind], -2)
+        act = can[kind][-1]
         writes = [(target, self.value(act["knows"], target)) for target, value in act["writes"]
                   if self.counting(self.copies[hand], target) is act]
-        self.make(hand, "undo", writes)
-        return len(writes)
+        self.make(hand, kind, writes)
+        return [len(writes)]
+
+    def among(self, act, others):
+        return any(act is other for other in others)
+
+    def come(self, hand, act):
+        copy = self.copies[hand]
+        waiting = self.waiting[hand]
+        if self.among(act, copy) or self.among(act, waiting):
+            return 0
+        many = len(copy)
+        waiting.append(act)
+        while True:
+            ready = [one for one in waiting if all(self.among(known, copy) for known in one["knows"])]
+            if not ready:
+                return len(copy) - many
+            taken = min(ready, key=lambda one: (one["hand"], one["number"]))
+            copy.append(taken)
+            waiting[:] = [one for one in waiting if one is not taken]
+
+    def bring(self, hand, g, k):
+        self.look_hands(hand, g)
+        found = [act for act in self.own(g) if act["number"] == k]
+        refuse_if(not found, -2)
+        return [self.come(hand, found[0])]
+
+    def sync(self, hand, g):
+        self.look_hands(hand, g)
+        return [sum([self.come(hand, act) for act in list(self.copies[g])])]
+
+    def among_corners(self, acts, axis, one, other):
+        """Which of those that are there, from 0 on, lie in the line from one corner to the other."""
+        line = [number for number, place in self.line(acts, axis)]
+        there = self.there(acts, axis)
+        if one not in line or other not in line:
+            return []
+        low, high = sorted([line.index(one), line.index(other)])
+        return [there.index(number) for number in line[low:high + 1] if number in there]
+
+    def shows(self, acts, row, column):
+        value = self.value(acts, ("cell", row, column))
+        if value[0] in (0, 1):
+            return value
+        corners = value[1:] if value[0] == 2 else value[2:4] * 2
+        rows = self.among_corners(acts, 0, corners[0], corners[2])
+        columns = self.among_corners(acts, 1, corners[1], corners[3])
+        if not rows or not columns:
+            return [4]
+        if value[0] == 2:
+            return [2, rows[0], columns[0], rows[-1], columns[-1]]
+        return [3, value[1], rows[0], columns[0], value[4]]
+
+    def sheet(self, hand):
+        self.look_hands(hand)
+        acts = self.copies[hand]
+        rows = self.there(acts, 0)
+        columns = self.there(acts, 1)
+        answer = [0, len(rows), len(columns)]
+        for row in rows:
+            for column in columns:
+                answer += self.shows(acts, row, column)
+        return answer
+
+    def passed(self, hand):
+        self.look_hands(hand)
+        codes = {("place", 0): 0, ("gone", 0): 1, ("place", 1): 2, ("gone", 1): 3}
+        found = []
+        for g in range(1, self.hands + 1):
+            for act in sorted([act for act in self.copies[hand] if act["hand"] == g], key=lambda one: one["number"]):
+                for target, value in act["writes"]:
+                    counts = self.counting(self.copies[hand], target)
+                    if counts is not act and not self.among(act, counts["knows"]):
+                        found.append([g, act["number"], codes.get(target[:2], 4), counts["hand"], counts["number"]])
+        return [len(found)] + [number for one in found for number in one]
+
+    def acts(self, hand):
+        self.look_hands(hand)
+        many = [len([act for act in self.copies[hand] if act["hand"] == g]) for g in range(1, self.hands + 1)]
+        return [len(self.copies[hand]), len(self.waiting[hand])] + many
 
     def answer(self, call):
-        name = ("begin", "put", "remove", "move", "set", "undo")[call[0] - 1]
+        name = NAMES[call[0] - 1]
         numbers = call[1:4] + [call[5:]] if name == "set" else call[1:]
         try:
             return getattr(self, name)(*numbers)
         except Refusal as refusal:
-            return refusal.args[0]
+            return [refusal.args[0]]

@@ -34,6 +34,30 @@ def undo(hand):
     return [6, hand]
 
 
+def redo(hand):
+    return [7, hand]
+
+
+def bring(hand, g, k):
+    return [8, hand, g, k]
+
+
+def sync(hand, g):
+    return [9, hand, g]
+
+
+def sheet(hand):
+    return [10, hand]
+
+
+def passed(hand):
+    return [11, hand]
+
+
+def acts(hand):
+    return [12, hand]
+
+
 def joined(calls):
     return [number for call in calls for number in call]
 
@@ -48,6 +72,54 @@ def unframed(answered):
 
 def ask(*calls):
     return unframed(answers(joined(calls)))
+
+
+def split(answered):
+    """The answers one by one, each as a list of its own."""
+    found = []
+    at = 0
+    while at < len(answered):
+        found.append(answered[at + 1:at + 1 + answered[at]])
+        at += 1 + answered[at]
+    return found
+
+
+def ask_all(*calls):
+    return split(answers(joined(calls)))
+
+
+def last(*calls):
+    """What the last of the calls answers."""
+    return ask_all(*calls)[-1]
+
+
+def unshown(numbers):
+    """A sheet as sheet tells it, as rows of what each cell shows; the count of columns is told by the rows."""
+    zero, rows, columns = numbers[:3]
+    if zero != 0:
+        raise ValueError(f"not a sheet: {numbers}")
+    cells = []
+    at = 3
+    while at < len(numbers):
+        size = {0: 1, 1: 2, 2: 5, 3: 5, 4: 1}[numbers[at]]
+        cells.append(tuple(numbers[at:at + size]))
+        at += size
+    if len(cells) != rows * columns:
+        raise ValueError(f"not {rows} rows of {columns} cells: {numbers}")
+    return [cells[k * columns:(k + 1) * columns] for k in range(rows)]
+
+
+def sheet_after(hand, *calls):
+    return unshown(last(*calls, sheet(hand)))
+
+
+def passed_after(hand, *calls):
+    """The writes that passed tells, five numbers each."""
+    numbers = last(*calls, passed(hand))
+    found = [tuple(numbers[at:at + 5]) for at in range(1, len(numbers), 5)]
+    if numbers[0] != len(found):
+        raise ValueError(f"not so many: {numbers}")
+    return found
 
 
 def book_after(*calls):
@@ -78,12 +150,22 @@ def cell_after(hand, row, column, *calls):
     return book_after(*calls).copy_of(hand).has(cell_of(row, column))
 
 
+def placed(copy, axis):
+    """The line with its places."""
+    return [(number, copy.places[axis][number]) for number in copy.line(axis)]
+
+
+def told(act):
+    return (act.kind, act.hand, act.number, act.time, act.knows, list(act.writes.items()))
+
+
 def state(book):
     """All that a book has, by values, so that two can be compared."""
     return [
-        (copy.time, list(copy.had), [list(places.items()) for places in copy.places],
-         [copy.there(ROWS), copy.there(COLS)],
+        (copy.time, list(copy.had), [placed(copy, axis) for axis in (ROWS, COLS)],
+         [copy.there(axis) for axis in (ROWS, COLS)],
          [(target, copy.has(target)) for target in copy.counting],
-         [(act.kind, act.number, act.time, act.knows, list(act.writes.items())) for act in made])
+         [told(act) for act in copy.came], [told(act) for act in copy.waiting.values()],
+         [told(act) for act in made])
         for copy, made in zip(book.copies, book.made)
     ]

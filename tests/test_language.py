@@ -32,7 +32,8 @@ NO_NAMES = set(
 
 
 def files():
-    return sorted(PACKAGE.iterdir())
+    # Python may have left its own folder there; it is never committed.
+    return sorted([path for path in PACKAGE.iterdir() if path.name != "__pycache__"])
 
 
 def trees():
